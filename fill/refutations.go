@@ -144,7 +144,8 @@ func (b *board) isRefuted(next func() api.Node) bool {
 }
 
 // nextNode returns a line that is out of reach, or else what leaves the fewest
-// choices open: this keeps refutations short.
+// choices open, of several ones if possible the cell that is bound most: this
+// keeps refutations short.
 func (b *board) nextNode() api.Node {
 	if line, found := b.firstOutOfReach(); found {
 		return api.Node{Kind: lineKind, Line: line}
@@ -162,7 +163,7 @@ func (b *board) nextNode() api.Node {
 		}
 	}
 	node, fewest := api.Node{}, len(cells)+1
-	for _, cell := range cells {
+	for _, cell := range append([]int{b.mostBound(cells, b.open)}, cells...) {
 		if perCell[cell] < fewest {
 			node, fewest = api.Node{Kind: cellKind, Cell: cell, Kids: len(cells)}, perCell[cell]
 		}
