@@ -135,8 +135,8 @@ func irreducibles(s api.System) [][]int {
 	return basis
 }
 
-// lattice returns vectors of which each one is a sum with integers as factors,
-// and in just one way.
+// lattice returns a basis of all vectors: each one is a sum of those of the
+// basis with integers as factors, in just one way.
 func lattice(s api.System) []vector {
 	free := make([]vector, s.Cells)
 	for cell := range free {
